@@ -205,8 +205,9 @@ func documentOfBytes(n int, blocks int) []impl.Item {
 	around := 2*blocks + len("a = \n")
 	for n > 0 {
 		bytes := min(n, around+992)
+		// The next entry needs at least an expression of 4 bytes.
 		if left := n - bytes; left > 0 && left < around+4 {
-			bytes -= around
+			bytes -= around + 4
 		}
 		list = append(list, impl.Item{Kind: impl.ItemEntry, Name: "a", Expr: exprOfBytes(bytes - around)})
 		n -= bytes
